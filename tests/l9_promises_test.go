@@ -522,7 +522,7 @@ func TestPromise50ACalmOfNoRounds(t *testing.T) {
 		})
 	}
 	for _, w := range badWorlds() {
-		for _, n := range []int{1, 100, 101} {
+		for _, n := range []int{-100, -1, 0, 1, 100, 101} {
 			if !noWld(impl.WldCalm(w, n)) {
 				t.Fatalf("WldCalm(%+v, %d) is something", w, n)
 			}

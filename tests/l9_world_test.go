@@ -237,11 +237,11 @@ func heardByWords(w impl.WldWorld) impl.WldWorld {
 
 // wldCalmByWords is chapter 9's words for WldCalm.
 func wldCalmByWords(w impl.WldWorld, n int) impl.WldWorld {
-	if n < 1 {
-		return w
-	}
 	if !wldOkByWords(w) || n > 100 {
 		return impl.WldWorld{}
+	}
+	if n < 1 {
+		return w
 	}
 	w = heardByWords(w)
 	for range n {
@@ -728,7 +728,7 @@ func TestWldOkOfWhatIsOnItsWay(t *testing.T) {
 	}
 }
 
-// Of two ends that are not ok each step, run and calm is nothing; a calm of no rounds alone leaves them as they are.
+// Of two ends that are not ok each step, run and calm is nothing, a calm of no rounds, or fewer, too.
 func TestWldOfWhatIsNotOk(t *testing.T) {
 	events := eachEvent(numOpts())
 	for _, w := range badWorlds() {
@@ -742,14 +742,9 @@ func TestWldOfWhatIsNotOk(t *testing.T) {
 				t.Fatalf("WldRun(%+v), of %d, is something", w, n)
 			}
 		}
-		for _, n := range []int{1, 2, 100, 101} {
+		for _, n := range append(farNumbers(), 0, 1, 2, 100, 101) {
 			if !noWld(impl.WldCalm(w, n)) {
 				t.Fatalf("WldCalm(%+v, %d) is something", w, n)
-			}
-		}
-		for _, n := range []int{0, -1, -100, math.MinInt} {
-			if got := impl.WldCalm(w, n); !wldSame(got, w) {
-				t.Fatalf("WldCalm(%+v, %d) = %+v", w, n, got)
 			}
 		}
 	}
@@ -1608,12 +1603,14 @@ func TestWldSharesNothing(t *testing.T) {
 	}
 }
 
-// Of what is not ok a calm of no rounds is as it is: in new memory, too.
-func TestWldCalmOfWhatIsNotOkSharesNothing(t *testing.T) {
+// What is not ok is not written into either, however many rounds.
+func TestWldCalmOfWhatIsNotOkTurnsNothing(t *testing.T) {
 	for _, w := range badWorlds() {
-		m := &memory{}
-		in := m.world(w)
-		wantOwn(t, "WldCalm", m, func() impl.WldWorld { return impl.WldCalm(in, 0) }, deepWorld(w))
+		for _, n := range []int{-1, 0, 1} {
+			m := &memory{}
+			in := m.world(w)
+			wantOwn(t, "WldCalm", m, func() impl.WldWorld { return impl.WldCalm(in, n) }, impl.WldWorld{})
+		}
 	}
 }
 
